@@ -1,0 +1,1 @@
+"""Stiffbars: frames of joints and bars."""
