@@ -28,20 +28,40 @@ def bare(count):
     return [[] for _ in range(count)]
 
 
+def carrying(count, rows):
+    """What so many joints carry of the chosen ones of the bars."""
+    carried = bare(count)
+    for one, other in rows:
+        lay(carried, one, other)
+    return carried
+
+
 def lay(carried, one, other):
     """Add a bar to lean ones where they stay lean with it, and return None.
 
-    Else add none, and return a list of joints, rising, that they would crowd.
+    Else add none, and return the fewest joints, rising, that they would crowd.
+    """
+    crowd = crowd_between(carried, one, other)
+    if crowd is None:
+        carried[one].append(other)
+    return crowd
+
+
+def crowd_between(carried, one, other):
+    """The fewest joints, rising, that lean bars and one more between these two crowd.
+
+    None where they stay lean. These few lie within all joints that they crowd.
     """
     # This never fails: while one carries a bar, it has one free hand at most, but
     # the joints reached from it have three at least, as the bars are lean.
     unload(carried, one, one)
     if unload(carried, other, one):
-        carried[one].append(other)
         return None
     # These k joints carry only bars among themselves. Of the three free hands
     # that they must have, as the bars are lean, other has one, so that the
     # spared joint one is of them, with two: 2 * k - 3 bars lie among them.
+    # Where as many lie among any k joints with one and other, which have these
+    # three free hands, they carry no bar that leads out: the reached are of them.
     return sorted(reached(carried, other))
 
 

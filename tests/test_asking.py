@@ -1,13 +1,28 @@
 """[1]: nothing that is handed in is changed or kept, and what is told is the asker's own."""
 
+import copy
 import unittest
 
+from stiffbars.building import built, steps
 from stiffbars.choice import chosen, worth
+from stiffbars.errors import FrameError
+from stiffbars.frame import Frame
 from stiffbars.frames import among, checked, joints_of
+from stiffbars.knots import knot, too_many
 from stiffbars.lean import crowded
-from tests.by_definition import all_pairs, some_frames
+from stiffbars.parts import holds, is_stiff, parts
+from tests.by_definition import all_pairs, some_frames, stiff_bars
 
 JOINTS = [3, 1, 0, 2, 3]
+
+
+def steps_or_refusal(bars):
+    """The steps that build a frame of 16 joints, or the name of what is refused."""
+    try:
+        return steps(16, bars)
+    except FrameError as refusal:
+        return type(refusal).__name__
+
 
 # Each way to ask, over the bars of a frame of 16 joints.
 ASKED = (
@@ -17,9 +32,15 @@ ASKED = (
     lambda bars: worth(16, bars),
     joints_of,
     lambda bars: among(bars, JOINTS),
+    lambda bars: knot(16, bars, len(bars) - 1) if bars else None,
+    lambda bars: too_many(16, bars),
+    lambda bars: holds(16, bars, 0, 15),
+    lambda bars: parts(16, bars),
+    lambda bars: is_stiff(16, bars),
+    steps_or_refusal,
 )
 
-FRAMES = [[], [(1, 0)], [(1, 0), (0, 1)], all_pairs(5)] + some_frames(16, 60, 10, 5)
+FRAMES = [[], [(1, 0)], [(1, 0), (0, 1)], all_pairs(5), stiff_bars(16)] + some_frames(16, 60, 10, 5)
 
 
 class AskingTest(unittest.TestCase):
@@ -44,7 +65,10 @@ class AskingTest(unittest.TestCase):
                 told = ask(bars)
                 if not isinstance(told, list):
                     continue
-                kept = list(told)
+                kept = copy.deepcopy(told)
+                for part in told:
+                    if isinstance(part, list):
+                        part.append(7)
                 told.append((7, 7))
                 told.reverse()
                 self.assertEqual(bars, before)
@@ -57,7 +81,7 @@ class AskingTest(unittest.TestCase):
         for bars in FRAMES:
             rows = list(bars)
             told = [ask(rows) for ask in ASKED]
-            kept = [list(value) if isinstance(value, list) else value for value in told]
+            kept = copy.deepcopy(told)
             rows.reverse()
             rows.insert(0, (0, 1))
             for ask in ASKED:
@@ -77,6 +101,41 @@ class AskingTest(unittest.TestCase):
         self.assertEqual(joints_of(rows), [0, 1, 2])
         self.assertEqual(among(rows, [0, 1]), [0, 2])
         self.assertEqual(checked(16, rows), [(0, 1), (1, 2), (1, 0)])
+        self.assertEqual(knot(16, rows, 0), [0, 2])
+        self.assertEqual(too_many(16, rows), [0, 2])
+        self.assertEqual(parts(16, rows), [[0, 1], [1, 2]])
+        self.assertIs(holds(16, rows, 0, 2), False)
+        self.assertIs(is_stiff(3, rows), False)
+
+    def test_steps_that_are_handed_in(self):
+        told = [("bar", 1, 0), ("two", 2, 0, 1), ("three", 3, 0, 1, 2)]
+        before = list(told)
+        bars = built(4, told)
+        self.assertEqual(told, before)
+        kept = list(bars)
+        bars.clear()
+        self.assertEqual(built(4, told), kept)
+        bars = built(4, told)
+        told[2] = ("two", 3, 0, 1)
+        self.assertEqual(bars, kept)
+        self.assertEqual(built(4, told), [(0, 1), (0, 2), (0, 3), (1, 2), (1, 3)])
+        told.append(("two", 3, 0, 1))
+        before = list(told)
+        with self.assertRaises(FrameError):
+            built(4, told)
+        self.assertEqual(told, before)
+
+    def test_frames_do_not_hang_on_what_is_asked_elsewhere(self):
+        frame = Frame(16)
+        for one, other in stiff_bars(16):
+            frame.put(one, other)
+        bars, told = frame.bars(), frame.steps()
+        for some in FRAMES:
+            for ask in ASKED:
+                ask(some)
+        self.assertEqual(frame.bars(), bars)
+        self.assertEqual(frame.steps(), told)
+        self.assertIs(frame.is_stiff(), True)
 
 
 if __name__ == "__main__":

@@ -2,13 +2,21 @@
 
 import unittest
 
+from stiffbars.building import steps
 from stiffbars.choice import chosen, worth
 from stiffbars.errors import BadBar, BadCount
 from stiffbars.frames import among, checked, joints_of
+from stiffbars.knots import knot, too_many
 from stiffbars.lean import crowded
+from stiffbars.parts import holds, is_stiff, parts
 from tests.by_definition import all_pairs, lying, some_frames
 
-ASKED = (checked, crowded, chosen, worth)
+# Of the last two, what is asked of the frame is wrong, too: the frame is refused ahead of it.
+ASKED = (
+    checked, crowded, chosen, worth, too_many, parts, is_stiff, steps,
+    lambda count, bars: knot(count, bars, None),
+    lambda count, bars: holds(count, bars, 0, None),
+)
 
 WRONG_COUNTS = (0, 17, -1, -16, 1000, 10 ** 5000, True, False, None, "3", "", 3.0, [3], (3,), {})
 

@@ -24,6 +24,11 @@ LIBRARY = {
     "itertools": {"product", "combinations", "permutations", "chain"},
     "collections": {"defaultdict", "deque"},
 }
+# Comments and docstrings may have most of these; that the package does without them there is easier to tell.
+WORDS = re.compile(
+    r"\b(type|typing|enum|namedtuple|dataclass|overload|register|mro|elements|open|input|law|global|eval|exec|dir|"
+    r"vars|locals|globals|compile|exit|quit|help|id|super|sys|os|gc|_wall)\b"
+)
 BARRED = (
     ast.AsyncFunctionDef, ast.AsyncFor, ast.AsyncWith, ast.Await, ast.Import, ast.Div, ast.Global, ast.TryStar,
 )
@@ -131,6 +136,34 @@ class LanguageTest(unittest.TestCase):
                 if isinstance(node, ast.Name) and isinstance(node.ctx, ast.Load):
                     self.assertIn(node.id, names | BUILTINS)
                     self.assertNotEqual(node.id, "_")
+
+    def test_no_name_in_a_function_is_that_of_an_import_or_a_class(self):
+        for name, tree in self.each():
+            rows = [row for row in tree.body if isinstance(row, ast.ImportFrom)]
+            outside = {alias.name for row in rows for alias in row.names}
+            outside |= {row.name for row in tree.body if isinstance(row, ast.ClassDef)}
+            for node in ast.walk(tree):
+                if isinstance(node, (ast.FunctionDef, ast.Lambda)):
+                    inside = bound(node) - {getattr(node, "name", None)}
+                    self.assertEqual(inside & outside, set(), name)
+
+    def test_classes(self):
+        for name, tree in self.each():
+            for node in ast.walk(tree):
+                if not isinstance(node, ast.ClassDef):
+                    continue
+                methods = [row.name for row in node.body if isinstance(row, ast.FunctionDef)]
+                self.assertEqual(len(methods), len(set(methods)), name)
+                self.assertEqual([word for word in methods if word.startswith("__") and word != "__init__"], [])
+                stored = {
+                    inner.attr for inner in ast.walk(node)
+                    if isinstance(inner, ast.Attribute) and isinstance(inner.ctx, ast.Store)
+                }
+                self.assertEqual(stored & (METHODS | set(methods)), set(), name)
+
+    def test_words_that_are_not_used(self):
+        for path in FILES:
+            self.assertIsNone(WORDS.search(read(path)), path.name)
 
     def test_nodes_and_methods(self):
         own = {node.name for _, tree in self.each() for node in ast.walk(tree) if isinstance(node, ast.FunctionDef)}
